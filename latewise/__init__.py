@@ -1,0 +1,1 @@
+"""Latewise: serving without knowing what comes."""
