@@ -1,0 +1,47 @@
+"""The names, the parameters and the places that the document's interface lists."""
+
+import inspect
+import unittest
+
+from latewise import hindsight, rules, systems
+from helpers import TWO_MODES
+
+FUNCTIONS = [
+    (hindsight, "best", ["system", "row"]),
+    (hindsight, "best_plan", ["system", "row"]),
+    (hindsight, "plan_cost", ["system", "row", "plan"]),
+    (hindsight, "debts", ["system", "row"]),
+    (hindsight, "growth", ["system", "some_debts", "kind"]),
+    (rules, "check", ["system", "rule"]),
+    (rules, "modes_of", ["system", "rule", "row"]),
+    (rules, "cost", ["system", "rule", "row"]),
+    (systems, "System", ["switches", "kinds"]),
+    (rules, "Rule", ["states"]),
+]
+METHODS = [
+    (systems.System, "switch", ["self", "first", "second"]),
+    (systems.System, "service", ["self", "kind", "mode"]),
+    (systems.System, "switches", ["self"]),
+    (systems.System, "kinds", ["self"]),
+    (rules.Rule, "states", ["self"]),
+]
+
+
+class InterfaceTest(unittest.TestCase):
+    def test_functions_and_classes_stand_in_their_files(self):
+        for module, name, parameters in FUNCTIONS:
+            found = getattr(module, name)
+            self.assertEqual(found.__module__, module.__name__)
+            self.assertEqual(list(inspect.signature(found).parameters), parameters)
+
+    def test_methods_stand_in_their_classes(self):
+        for owner, name, parameters in METHODS:
+            self.assertIn(name, vars(owner))
+            self.assertEqual(list(inspect.signature(vars(owner)[name]).parameters), parameters)
+
+    def test_attributes_are_set_when_a_system_is_created(self):
+        self.assertEqual([vars(TWO_MODES)["modes"], vars(TWO_MODES)["names"]], [2, ("p", "q")])
+
+
+if __name__ == "__main__":
+    unittest.main()
