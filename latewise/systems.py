@@ -32,6 +32,10 @@ class System:
         """The cost of serving the kind in the mode, or None if the mode cannot serve it."""
         return self._kinds[kind][mode]
 
+    def price(self, mode, kind, chosen):
+        """The cost of switching from a mode to the chosen one and of serving the kind in this one, which can."""
+        return self._switches[mode][chosen] + self._kinds[kind][chosen]
+
     def switches(self):
         """The switches, as they can be handed in."""
         return [list(costs) for costs in self._switches]

@@ -109,3 +109,13 @@ def long_row(system, many):
         number = (number * 1103515245 + 12345) % 2 ** 31
         row.append(system.names[(number >> 16) % len(system.names)])
     return row
+
+
+def wrong_factors():
+    """New values that are no factors, such that look like some among them."""
+    near = [
+        (1, 2), (2, 2), (4, 2), (0, 1), (0, 0), (1, 0), (-2, -1), (2, -1), (-1, 1), (2,), (2, 1, 1), [2, 1], {2: 1},
+        (True, 1), (1, True), (2, True), (True, True), (False, 1), ("2", 1), (2, None), ((2, 1), 1), ([2], 1), "21", 2,
+        (10 ** 400, 10 ** 400), (10 ** 400, 5), (3 * 10 ** 400, 2 * 10 ** 400), (10 ** 400 - 1, 10 ** 400),
+    ]
+    return odd_values() + near

@@ -40,6 +40,45 @@ RULE = """
 [[0, 1, 0, 0], 5]
 """
 
+FACTOR = """
+>>> from latewise.systems import System
+>>> from latewise.rules import Rule
+>>> from latewise.factors import excess, factor
+>>> system = System([[0, 1], [2, 0]], {"q": [1, 0], "p": [0, 2]})
+>>> rule = Rule([{"q": (0, 1), "p": (0, 0)}, {"q": (1, 1), "p": (0, 0)}])
+>>> [factor(system, rule), excess(system, rule, (2, 1)), excess(system, rule, (3, 1)), excess(system, rule, (3, 2))]
+[(2, 1), 0, 0, None]
+"""
+
+COMPARED = """
+>>> from latewise.systems import System
+>>> from latewise.rules import Rule
+>>> from latewise.compare import lead, parting_row
+>>> system = System([[0, 1], [2, 0]], {"q": [1, 0], "p": [0, 2]})
+>>> rule = Rule([{"q": (0, 1), "p": (0, 0)}, {"q": (1, 1), "p": (0, 0)}])
+>>> other = Rule([{"q": (1, 0), "p": (0, 0)}])
+>>> [len(parting_row(system, rule, other)), lead(system, rule, other), lead(system, other, rule)]
+[2, None, None]
+"""
+
+GAME = """
+>>> from latewise.systems import System
+>>> from latewise.games import least_factor
+>>> system = System([[0, 1], [2, 0]], {"q": [1, 0], "p": [0, 2]})
+>>> other = System([[0, 0, 0], [0, 0, 1], [0, 1, 0]], {"a": [1, 0, 0], "b": [1, 0, 1], "c": [1, 1, 0], "e": [0, 1, 1]})
+>>> [least_factor(system), least_factor(other)]
+[(2, 1), None]
+"""
+
+SMALLEST = """
+>>> from latewise.systems import System
+>>> from latewise.rules import Rule
+>>> from latewise.smallest import smallest_rule
+>>> system = System([[0, 1], [2, 0]], {"q": [1, 0], "p": [0, 2]})
+>>> [smallest_rule(system, (3, 1), 1) == Rule([{"q": (1, 0), "p": (0, 0)}]), smallest_rule(system, (2, 1), 1)]
+[True, None]
+"""
+
 
 class ExamplesTest(unittest.TestCase):
     def run_example(self, text):
@@ -60,6 +99,18 @@ class ExamplesTest(unittest.TestCase):
 
     def test_rule(self):
         self.run_example(RULE)
+
+    def test_factor(self):
+        self.run_example(FACTOR)
+
+    def test_compared(self):
+        self.run_example(COMPARED)
+
+    def test_game(self):
+        self.run_example(GAME)
+
+    def test_smallest(self):
+        self.run_example(SMALLEST)
 
     def test_readme(self):
         blocks = README.read_text().split("```\n")[1::2]

@@ -3,7 +3,7 @@
 import inspect
 import unittest
 
-from latewise import hindsight, rules, systems
+from latewise import compare, factors, games, hindsight, rules, smallest, systems
 from helpers import TWO_MODES
 
 FUNCTIONS = [
@@ -15,6 +15,22 @@ FUNCTIONS = [
     (rules, "check", ["system", "rule"]),
     (rules, "modes_of", ["system", "rule", "row"]),
     (rules, "cost", ["system", "rule", "row"]),
+    (factors, "spots", ["system", "rule"]),
+    (factors, "factor", ["system", "rule"]),
+    (factors, "bad_loop", ["system", "rule"]),
+    (factors, "bounds", ["system", "rule", "some_factor"]),
+    (factors, "are_bounds", ["system", "rule", "some_factor", "bounds"]),
+    (factors, "excess", ["system", "rule", "some_factor"]),
+    (compare, "parting_row", ["system", "first", "second"]),
+    (compare, "lead", ["system", "first", "second"]),
+    (games, "least_factor", ["system"]),
+    (games, "choices", ["system"]),
+    (games, "requests", ["system"]),
+    (games, "have_factor", ["system", "choices", "some_factor"]),
+    (games, "hold_factor", ["system", "requests", "some_factor"]),
+    (smallest, "smallest_rule", ["system", "some_factor", "most"]),
+    (smallest, "shortfalls", ["system", "some_factor", "many"]),
+    (smallest, "reduced", ["system", "rule"]),
     (systems, "System", ["switches", "kinds"]),
     (rules, "Rule", ["states"]),
 ]

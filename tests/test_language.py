@@ -18,6 +18,20 @@ METHODS = (
     "items join keys ljust lower lstrip partition pop remove replace reverse rfind rjust rpartition rsplit rstrip "
     "setdefault split splitlines startswith strip update upper values zfill bit_length"
 ).split()
+# What may be imported from outside of the package.
+LIBRARY = {"math": ["gcd", "lcm", "isqrt", "comb"], "itertools": ["product", "combinations", "permutations"]}
+
+
+def names_of_builtins():
+    """The names of all builtins; doctest puts one more among them, which is none."""
+    names = dir(__builtins__) if not isinstance(__builtins__, dict) else list(__builtins__)
+    return [name for name in names if name != "_"]
+
+
+def names_at_module_level(tree):
+    """The names of the functions, classes and values that a file defines."""
+    names = [part.name for part in tree.body if isinstance(part, (ast.FunctionDef, ast.ClassDef))]
+    return names + [part.targets[0].id for part in tree.body if isinstance(part, ast.Assign)]
 
 
 class LanguageTest(unittest.TestCase):
@@ -48,12 +62,33 @@ class LanguageTest(unittest.TestCase):
         for name, node in self.nodes():
             if isinstance(node, ast.ImportFrom):
                 self.assertEqual(node.level, 0, name)
-                self.assertTrue(node.module.startswith("latewise."), (name, node.module))
-                text = (PACKAGE / (node.module.split(".")[1] + ".py")).read_text()
-                own = [part.name for part in ast.parse(text).body if isinstance(part, (ast.FunctionDef, ast.ClassDef))]
+                if node.module in LIBRARY:
+                    listed = LIBRARY[node.module]
+                else:
+                    self.assertTrue(node.module.startswith("latewise."), (name, node.module))
+                    text = (PACKAGE / (node.module.split(".")[1] + ".py")).read_text()
+                    listed = names_at_module_level(ast.parse(text))
                 for alias in node.names:
-                    self.assertIn(alias.name, own, name)
+                    self.assertIn(alias.name, listed, name)
                     self.assertIsNone(alias.asname, name)
+
+    def test_no_two_files_import_from_each_other(self):
+        imported = {path.stem: [] for path in FILES}
+        for path in FILES:
+            for node in ast.walk(ast.parse(path.read_text())):
+                if isinstance(node, ast.ImportFrom) and node.module.startswith("latewise."):
+                    imported[path.stem].append(node.module.split(".")[1])
+        while imported:
+            free = [name for name in imported if not any(other in imported for other in imported[name])]
+            self.assertTrue(free, sorted(imported))
+            imported = {name: imported[name] for name in imported if name not in free}
+
+    def test_names_are_bound_once_at_module_level(self):
+        for path in FILES:
+            tree = ast.parse(path.read_text())
+            names = names_at_module_level(tree)
+            names += [alias.name for part in tree.body if isinstance(part, ast.ImportFrom) for alias in part.names]
+            self.assertEqual(len(names), len(set(names)), path.name)
 
     def test_no_barred_statements_and_values(self):
         for name, node in self.nodes():
@@ -62,7 +97,7 @@ class LanguageTest(unittest.TestCase):
             self.assertFalse(isinstance(node, (ast.FunctionDef, ast.ClassDef)) and node.decorator_list, name)
 
     def test_only_listed_builtins(self):
-        known = dir(__builtins__) if not isinstance(__builtins__, dict) else list(__builtins__)
+        known = names_of_builtins()
         for name, node in self.nodes():
             if isinstance(node, ast.Name) and node.id in known:
                 self.assertIn(node.id, BUILTINS, name)
@@ -83,7 +118,7 @@ class LanguageTest(unittest.TestCase):
             tree = ast.parse(path.read_text())
             taken = [alias.name for node in ast.walk(tree) if isinstance(node, ast.ImportFrom) for alias in node.names]
             taken += [node.name for node in tree.body if isinstance(node, ast.ClassDef)]
-            taken += dir(__builtins__) if not isinstance(__builtins__, dict) else list(__builtins__)
+            taken += names_of_builtins()
             for node in ast.walk(tree):
                 if isinstance(node, ast.Name) and isinstance(node.ctx, ast.Store):
                     self.assertNotIn(node.id, taken, path.name)
