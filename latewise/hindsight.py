@@ -2,23 +2,31 @@
 
 from latewise.checks import is_integer_within
 from latewise.errors import BadPlan, BadRow
+from latewise.systems import FAR, MOST_MODES
 
 
 def best(system, row):
     """The best of a row: the least cost of all plans for it."""
-    return best_and_debts(system, row)[0]
+    check_row(system, row)
+    return total_and_history(system, row)[0]
 
 
 def best_plan(system, row):
     """A plan for a row with the least cost."""
     check_row(system, row)
-    history = debts_ahead(system, row)
+    history = total_and_history(system, row)[1]
+    arrivals = system.arrivals()
     mode = history.pop().index(0)
     plan = []
+    known = [{} for costs in arrivals]
     # What a mode has cost is known only from its debts behind the request, so the plan is found from its end.
-    for some_debts in reversed(history):
+    for owed in reversed(history):
         plan.append(mode)
-        mode = cheapest_before(system, some_debts, mode)
+        found = known[mode].get(owed)
+        if found is None:
+            found = cheapest_before(owed, arrivals[mode])
+            known[mode][owed] = found
+        mode = found
     plan.reverse()
     return plan
 
@@ -37,14 +45,14 @@ def plan_cost(system, row, plan):
 
 def debts(system, row):
     """The debts of a row: for each mode the least cost of plans that end in it, less the best; or None."""
-    return best_and_debts(system, row)[1]
+    check_row(system, row)
+    return debts_told(system, total_and_history(system, row)[1][-1])
 
 
 def growth(system, some_debts, kind):
     """The pair of the growth at a request of the kind, and of the debts behind it."""
-    totals = [cost_of_ending(system, some_debts, kind, mode) for mode in range(system.modes)]
-    least = min([total for total in totals if total is not None])
-    return least, tuple([None if total is None else total - least for total in totals])
+    grown, owed = step(system.ways(kind), debts_owed(some_debts))
+    return grown, debts_told(system, owed)
 
 
 def check_row(system, row):
@@ -77,35 +85,47 @@ def check_plan(system, row, plan):
         raise BadPlan(min(len(row), len(plan)))
 
 
-def best_and_debts(system, row):
-    """The pair of the best of a row and of its debts."""
-    check_row(system, row)
+def total_and_history(system, row):
+    """The best of a right row, and the list of what is owed ahead of each request, and at last behind the row.
+
+    What is owed is the debts with four numbers always, FAR in place of None: so each mode is reckoned alike.
+    """
     total = 0
-    some_debts = first_debts(system)
+    owed = debts_owed(first_debts(system))
+    history = [owed]
+    # The same debts come again and again along a row.
+    known = {name: {} for name in system.names}
     for kind in row:
-        grown, some_debts = growth(system, some_debts, kind)
+        found = known[kind].get(owed)
+        if found is None:
+            found = step(system.ways(kind), owed)
+            known[kind][owed] = found
+        grown, owed = found
         total += grown
-    return total, some_debts
+        history.append(owed)
+    return total, history
 
 
-def debts_ahead(system, row):
-    """The list of the debts ahead of each request of a right row, and at last those of the whole row."""
-    history = [first_debts(system)]
-    for kind in row:
-        history.append(growth(system, history[-1], kind)[1])
-    return history
+def step(ways, owed):
+    """The pair of the growth at a request that has these ways, and of what is owed behind it."""
+    first, second, third, fourth = owed
+    # Written out for the four modes, as all that is asked of rows waits for this line.
+    totals = [min(first + a, second + b, third + c, fourth + d) + service for a, b, c, d, service in ways]
+    least = min(totals)
+    return least, tuple([total - least if total < FAR else FAR for total in totals])
 
 
-def cost_of_ending(system, some_debts, kind, mode):
-    """The least cost, above the best so far, of serving the kind in the mode; None if it cannot serve it."""
-    service = system.service(kind, mode)
-    if service is None:
-        return None
-    before = cheapest_before(system, some_debts, mode)
-    return some_debts[before] + system.switch(before, mode) + service
+def cheapest_before(owed, costs):
+    """The mode with the least sum of what it owes and what the switch from it costs."""
+    sums = [debt + cost for debt, cost in zip(owed, costs)]
+    return sums.index(min(sums))
 
 
-def cheapest_before(system, some_debts, mode):
-    """The mode with the least debt and switch to the given mode."""
-    reached = [first for first in range(system.modes) if some_debts[first] is not None]
-    return min(reached, key=lambda one: some_debts[one] + system.switch(one, mode))
+def debts_owed(some_debts):
+    """What is owed by these debts."""
+    return tuple([FAR if debt is None else debt for debt in some_debts] + [FAR] * (MOST_MODES - len(some_debts)))
+
+
+def debts_told(system, owed):
+    """The debts, of all modes of the system, by what is owed."""
+    return tuple([debt if debt < FAR else None for debt in owed[:system.modes]])

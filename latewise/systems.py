@@ -6,6 +6,8 @@ from latewise.errors import BadKinds, BadSwitches
 MOST_MODES = 4
 MOST_KINDS = 4
 MOST_COST = 4
+# Stands for the cost of what cannot be: more than each sum of a debt, a switch and a service.
+FAR = 1000000
 
 
 class System:
@@ -20,6 +22,8 @@ class System:
         self.names = tuple(sorted(kinds))
         self._switches = [list(costs) for costs in switches]
         self._kinds = {name: list(kinds[name]) for name in self.names}
+        self._arrivals = tuple([arrival(self._switches, mode) for mode in range(MOST_MODES)])
+        self._ways = {name: ways_of_serving(self._arrivals, self._kinds[name]) for name in self.names}
 
     def __eq__(self, other):
         return isinstance(other, System) and self._switches == other._switches and self._kinds == other._kinds
@@ -35,6 +39,14 @@ class System:
     def price(self, mode, kind, chosen):
         """The cost of switching from a mode to the chosen one and of serving the kind in this one, which can."""
         return self._switches[mode][chosen] + self._kinds[kind][chosen]
+
+    def arrivals(self):
+        """For each of four modes, those that are lacking too, the costs of switching to it from each of them."""
+        return self._arrivals
+
+    def ways(self, kind):
+        """The arrivals, each of them with the cost of serving the kind in its mode as one number more."""
+        return self._ways[kind]
 
     def switches(self):
         """The switches, as they can be handed in."""
@@ -72,3 +84,15 @@ def are_services(value, modes):
         return False
     served = [cost for cost in value if cost is not None]
     return len(served) > 0 and all([is_integer_within(cost, 0, MOST_COST) for cost in served])
+
+
+def arrival(switches, mode):
+    """The costs of switching from each of four modes to the given one; FAR where one of the two is lacking."""
+    modes = len(switches)
+    return tuple([switches[first][mode] if max(first, mode) < modes else FAR for first in range(MOST_MODES)])
+
+
+def ways_of_serving(arrivals, services):
+    """The arrivals, each of them with the service of its mode behind it; FAR where the mode cannot serve."""
+    told = [FAR if cost is None else cost for cost in services] + [FAR] * (MOST_MODES - len(services))
+    return tuple([(*costs, cost) for costs, cost in zip(arrivals, told)])

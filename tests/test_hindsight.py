@@ -2,15 +2,19 @@
 
 import copy
 import unittest
+from random import Random
+from unittest import mock
 
 from helpers import (
     FOUR_MODES, IDLE_MODE, ONE_MODE, SYSTEMS, THREE_MODES, TWO_MODES,
     all_plans, all_rows, best_by_hand, best_from_behind, cost_by_hand, debts_by_hand, deep_dict, deep_list, long_row,
     odd_values,
 )
+from latewise import hindsight
 from latewise.errors import BadPlan, BadRow
 from latewise.hindsight import best, best_plan, debts, growth, plan_cost
 from latewise.systems import System
+from reckoning import drawn_pairs, growth_by_hand, start_of
 
 LONGEST = {1: 5, 2: 5, 3: 5, 4: 3}
 
@@ -118,6 +122,62 @@ class LongRows(unittest.TestCase):
         self.assertEqual(best(ONE_MODE, ["a"] * 1000), 3000)
         self.assertEqual(best(TWO_MODES, ["q"] * 1000), 1)
         self.assertEqual(best_plan(TWO_MODES, ["p"] * 1000), [0] * 1000)
+
+
+class ManyRequests(unittest.TestCase):
+    """The input of the report that best, debts and best_plan were slow."""
+
+    SYSTEM = System([[0, 3, 1, 2], [1, 0, 2, 1], [2, 1, 0, 3], [1, 1, 2, 0]], {
+        "ski": [1, 0, 2, None], "end": [0, 2, 1, 1], "go": [4, None, 0, 1], "up": [None, 2, 2, 0],
+    })
+    FOUR = ["ski", "go", "end", "up"]
+
+    def test_the_answers_by_plain_reckoning(self):
+        switches, kinds = self.SYSTEM.switches(), self.SYSTEM.kinds()
+        far = 10 ** 9
+        totals = [0, far, far, far]
+        for kind in self.FOUR * 60000:
+            totals = [
+                far if kinds[kind][mode] is None
+                else min(totals[k] + switches[k][mode] for k in range(4)) + kinds[kind][mode] for mode in range(4)
+            ]
+        self.assertEqual(totals, [far, 240004, 240003, 240001])
+
+    def test_the_answers(self):
+        row = self.FOUR * 60000
+        self.assertEqual(best(self.SYSTEM, row), 240001)
+        # The report has (None, 1, 0, 0) here, which are the debts of the first four requests.
+        self.assertEqual(debts(self.SYSTEM, row), (None, 3, 2, 0))
+        self.assertEqual(plan_cost(self.SYSTEM, row, best_plan(self.SYSTEM, row)), 240001)
+        self.assertEqual(row, self.FOUR * 60000)
+
+    def test_the_first_four_requests(self):
+        self.assertEqual(debts_by_hand(self.SYSTEM, self.FOUR), (None, 1, 0, 0))
+        self.assertEqual(debts(self.SYSTEM, self.FOUR), (None, 1, 0, 0))
+        self.assertEqual([best(self.SYSTEM, self.FOUR), best_by_hand(self.SYSTEM, self.FOUR)], [5, 5])
+
+    def test_the_same_debts_are_reckoned_once_for_each_kind(self):
+        row = self.FOUR * 60000
+        for call in (best, debts, best_plan):
+            with mock.patch.object(hindsight, "step", wraps=hindsight.step) as steps:
+                call(self.SYSTEM, row)
+                self.assertLess(steps.call_count, 100)
+
+    def test_rows_of_sixty_requests_and_their_beginnings(self):
+        draw = Random(41)
+        for system, _ in drawn_pairs(40, 2):
+            row = [draw.choice(system.names) for _ in range(60)]
+            total, owed = 0, start_of(system)
+            for many in range(len(row) + 1):
+                beginning = row[:many]
+                self.assertEqual(best(system, beginning), total)
+                self.assertEqual(debts(system, beginning), owed)
+                plan = best_plan(system, beginning)
+                self.assertEqual(len(plan), many)
+                self.assertEqual(cost_by_hand(system, beginning, plan), total)
+                if many < len(row):
+                    grown, owed = growth_by_hand(system, owed, row[many])
+                    total += grown
 
 
 class Facts(unittest.TestCase):
