@@ -25,13 +25,18 @@ def is_name(value):
     return all(["a" <= letter <= "z" for letter in value])
 
 
-def is_factor(value):
-    """True if the value is a factor: a fraction in lowest terms, from (1, 1)."""
+def is_fraction(value):
+    """True if the value is a fraction in lowest terms."""
     if not isinstance(value, tuple) or len(value) != 2:
         return False
     if not is_integer(value[0]) or not is_integer(value[1]):
         return False
-    return 1 <= value[1] <= value[0] and gcd(value[0], value[1]) == 1
+    return value[1] >= 1 and gcd(value[0], value[1]) == 1
+
+
+def is_factor(value):
+    """True if the value is a factor: a fraction in lowest terms, from (1, 1)."""
+    return is_fraction(value) and value[0] >= value[1]
 
 
 def check_factor(value):
@@ -41,6 +46,6 @@ def check_factor(value):
 
 
 def lowest_terms(top, bottom):
-    """The fraction top / bottom in lowest terms, for integers from 0 and from 1."""
+    """The fraction top / bottom in lowest terms, for an integer and one from 1."""
     divisor = gcd(top, bottom)
     return top // divisor, bottom // divisor

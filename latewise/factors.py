@@ -29,19 +29,14 @@ def bounds(system, rule, some_factor):
     """Bounds of a rule for a factor, or None if the rule does not have it."""
     graph = spot_graph(system, rule)
     check_factor(some_factor)
-    numbers = heights(graph, some_factor)
-    return None if numbers is None else {spot: number for spot, number in zip(graph.places, numbers)}
+    return bounds_of(graph, graph.places, some_factor)
 
 
 def are_bounds(system, rule, some_factor, bounds):
     """True if the value bounds is bounds of a rule for a factor."""
     graph = spot_graph(system, rule)
     check_factor(some_factor)
-    if not isinstance(bounds, dict) or len(bounds) != len(graph.places):
-        return False
-    if not all([spot in bounds and is_integer(bounds[spot]) for spot in graph.places]):
-        return False
-    return are_kept(graph, some_factor, [bounds[spot] for spot in graph.places])
+    return are_bounds_of(graph, graph.places, some_factor, bounds)
 
 
 def excess(system, rule, some_factor):
@@ -54,8 +49,13 @@ def excess(system, rule, some_factor):
 
 def spot_graph(system, rule):
     """The graph of the spots of a rule, with the kinds as labels."""
+    return spot_graph_from(system, rule, (0, 0, first_debts(system)))
+
+
+def spot_graph_from(system, rule, first):
+    """The graph of the spots of a rule that can be reached from the first one, with the kinds as labels."""
     check(system, rule)
-    return Graph((0, 0, first_debts(system)), lambda spot: steps_from(system, rule, spot), MOST_SPOTS)
+    return Graph(first, lambda spot: steps_from(system, rule, spot), MOST_SPOTS)
 
 
 def steps_from(system, rule, spot):
@@ -67,6 +67,21 @@ def steps_from(system, rule, spot):
         grown, owed = growth(system, some_debts, kind)
         found.append((kind, (following, chosen, owed), system.price(mode, kind, chosen), grown))
     return found
+
+
+def bounds_of(graph, places, some_factor):
+    """Bounds for a factor, a dict from the places that the numbers of the graph stand for; None if there are none."""
+    numbers = heights(graph, some_factor)
+    return None if numbers is None else {place: number for place, number in zip(places, numbers)}
+
+
+def are_bounds_of(graph, places, some_factor, value):
+    """True if the value is bounds for a factor, a dict from just the places that the numbers stand for."""
+    if not isinstance(value, dict) or len(value) != len(places):
+        return False
+    if not all([place in value and is_integer(value[place]) for place in places]):
+        return False
+    return are_kept(graph, some_factor, [value[place] for place in places])
 
 
 def are_kept(graph, some_factor, numbers):

@@ -51,6 +51,27 @@ def heights(graph, fraction):
     return numbers if loop is None else None
 
 
+def dearest_walk(graph, fraction, numbers, first):
+    """The list of the labels of a walk from the place with the number first that is worth its height.
+
+    The numbers are the heights for the fraction.
+    """
+    walks = Graph(first, lambda number: dearest_steps(graph, fraction, numbers, number), None)
+    ends = [at for at, number in enumerate(walks.places) if numbers[number] == 0]
+    return walks.labels_to(ends[0])
+
+
+def dearest_steps(graph, fraction, numbers, number):
+    """The steps from the place with the number that begin a dearest walk; none if to stay is one."""
+    top, bottom = fraction
+    if numbers[number] == 0:
+        return []
+    return [
+        edge for edge in graph.edges[number]
+        if bottom * edge[2] - top * edge[3] + numbers[edge[1]] == numbers[number]
+    ]
+
+
 def dear_loop(graph, fraction):
     """A pair of the number of a place and the list of edges of a loop from it that is worth more than 0; or None."""
     return climb(graph, fraction)[1]
@@ -58,7 +79,11 @@ def dear_loop(graph, fraction):
 
 def worst_loop(graph):
     """A pair of the least factor (None if there is none) and of a loop that shows it (None if that is (1, 1))."""
-    some_factor = (1, 1)
+    return worst_loop_above(graph, (1, 1))
+
+
+def worst_loop_above(graph, some_factor):
+    """A pair of the least factor from the given one on, and of a loop that shows it; None as in worst_loop."""
     worst = None
     loop = dear_loop(graph, some_factor)
     # Each loop that is found is dearer by its growth than the one before it, so one of them is the dearest.

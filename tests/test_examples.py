@@ -79,6 +79,50 @@ SMALLEST = """
 [True, None]
 """
 
+KNOWN = """
+>>> from latewise.systems import System
+>>> from latewise.known import known_factor
+>>> system = System([[0, 0, 0], [0, 0, 1], [0, 1, 0]], {"a": [1, 0, 0], "b": [1, 0, 1], "c": [1, 1, 0], "e": [0, 1, 1]})
+>>> follows = {"a": ["b", "c"], "b": ["e"], "c": ["e"], "e": ["a"]}
+>>> [known_factor(system, 0, follows), known_factor(system, 1, follows)]
+[None, (1, 1)]
+"""
+
+LIVE = """
+>>> from latewise.systems import System
+>>> from latewise.rules import Rule
+>>> from latewise.live import Live
+>>> system = System([[0, 1], [2, 0]], {"q": [1, 0], "p": [0, 2]})
+>>> rule = Rule([{"q": (0, 1), "p": (0, 0)}, {"q": (1, 1), "p": (0, 0)}])
+>>> live = Live(system, rule, (2, 1))
+>>> [live.serve("q"), live.serve("q"), live.serve("p"), live.paid(), live.best(), live.debts(), live.left(), live.allowance()]
+[(0, 1), (1, 1), (0, 2), 4, 2, (0, 1), 0, 0]
+"""
+
+MIXTURES = """
+>>> from latewise.systems import System
+>>> from latewise.rules import Rule
+>>> from latewise.mixtures import Mixture, mixed_cost, mixture_factor
+>>> system = System([[0, 1], [2, 0]], {"q": [1, 0], "p": [0, 2]})
+>>> rule = Rule([{"q": (0, 1), "p": (0, 0)}, {"q": (1, 1), "p": (0, 0)}])
+>>> other = Rule([{"q": (1, 0), "p": (0, 0)}])
+>>> mixture = Mixture([(3, rule), (2, other)])
+>>> [mixture_factor(system, mixture), mixed_cost(system, mixture, ["q", "q", "p"])]
+[(9, 5), (18, 5)]
+"""
+
+MIXING = """
+>>> from latewise.systems import System
+>>> from latewise.rules import Rule
+>>> from latewise.mixing import are_hard, best_mixture
+>>> system = System([[0, 1], [2, 0]], {"q": [1, 0], "p": [0, 2]})
+>>> rule = Rule([{"q": (0, 1), "p": (0, 0)}, {"q": (1, 1), "p": (0, 0)}])
+>>> other = Rule([{"q": (1, 0), "p": (0, 0)}])
+>>> loops = [(1, ["q", "p"], ["q", "p"]), (2, ["q", "q", "p"], ["q", "q", "p"])]
+>>> [weight for weight, one in best_mixture(system, [rule, other]).parts()] + [are_hard(system, [rule, other], loops, (9, 5))]
+[3, 2, True]
+"""
+
 
 class ExamplesTest(unittest.TestCase):
     def run_example(self, text):
@@ -111,6 +155,18 @@ class ExamplesTest(unittest.TestCase):
 
     def test_smallest(self):
         self.run_example(SMALLEST)
+
+    def test_known(self):
+        self.run_example(KNOWN)
+
+    def test_live(self):
+        self.run_example(LIVE)
+
+    def test_mixtures(self):
+        self.run_example(MIXTURES)
+
+    def test_mixing(self):
+        self.run_example(MIXING)
 
     def test_readme(self):
         blocks = README.read_text().split("```\n")[1::2]

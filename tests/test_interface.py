@@ -3,7 +3,7 @@
 import inspect
 import unittest
 
-from latewise import compare, factors, games, hindsight, rules, smallest, systems
+from latewise import compare, factors, games, hindsight, known, live, mixing, mixtures, rules, smallest, systems
 from helpers import TWO_MODES
 
 FUNCTIONS = [
@@ -31,8 +31,20 @@ FUNCTIONS = [
     (smallest, "smallest_rule", ["system", "some_factor", "most"]),
     (smallest, "shortfalls", ["system", "some_factor", "many"]),
     (smallest, "reduced", ["system", "rule"]),
+    (known, "known_factor", ["system", "known", "follows"]),
+    (known, "rule_factor", ["system", "rule", "follows"]),
+    (mixtures, "mixed_cost", ["system", "mixture", "row"]),
+    (mixtures, "mixture_factor", ["system", "mixture"]),
+    (mixtures, "mixture_loop", ["system", "mixture"]),
+    (mixtures, "mixture_bounds", ["system", "mixture", "some_factor"]),
+    (mixtures, "are_mixture_bounds", ["system", "mixture", "some_factor", "bounds"]),
+    (mixing, "best_mixture", ["system", "rules"]),
+    (mixing, "hard_loops", ["system", "rules"]),
+    (mixing, "are_hard", ["system", "rules", "loops", "some_factor"]),
     (systems, "System", ["switches", "kinds"]),
     (rules, "Rule", ["states"]),
+    (live, "Live", ["system", "rule", "some_factor"]),
+    (mixtures, "Mixture", ["parts"]),
 ]
 METHODS = [
     (systems.System, "switch", ["self", "first", "second"]),
@@ -40,6 +52,14 @@ METHODS = [
     (systems.System, "switches", ["self"]),
     (systems.System, "kinds", ["self"]),
     (rules.Rule, "states", ["self"]),
+    *[(live.Live, name, ["self"]) for name in (
+        "system", "rule", "mode", "state", "paid", "best", "debts", "left", "allowance", "worst_row", "mark",
+    )],
+    (live.Live, "serve", ["self", "kind"]),
+    (live.Live, "change_rule", ["self", "rule"]),
+    (live.Live, "change_system", ["self", "system"]),
+    (live.Live, "back", ["self", "number"]),
+    (mixtures.Mixture, "parts", ["self"]),
 ]
 
 
