@@ -123,6 +123,48 @@ MIXING = """
 [3, 2, True]
 """
 
+SOURCES = """
+>>> from latewise.sources import Source, chance
+>>> source = Source([{"q": (2, 0), "p": (1, 1)}, {"q": (1, 0)}])
+>>> [chance(source, ["q", "p", "q"]), chance(source, ["p", "p"])]
+[(2, 9), (0, 1)]
+"""
+
+AVERAGES = """
+>>> from latewise.systems import System
+>>> from latewise.rules import Rule
+>>> from latewise.sources import Source
+>>> from latewise.averages import best_average, rule_average
+>>> system = System([[0, 1], [2, 0]], {"q": [1, 0], "p": [0, 2]})
+>>> rule = Rule([{"q": (0, 1), "p": (0, 0)}, {"q": (1, 1), "p": (0, 0)}])
+>>> source = Source([{"q": (1, 0), "p": (1, 0)}])
+>>> [rule_average(system, rule, source), best_average(system, source)]
+[(5, 8), (3, 7)]
+"""
+
+PRICES = """
+>>> from latewise.systems import System
+>>> from latewise.sources import Source
+>>> from latewise.prices import least_average, shown_factor
+>>> system = System([[0, 1], [2, 0]], {"q": [1, 0], "p": [0, 2]})
+>>> source = Source([{"q": (1, 0), "p": (1, 0)}])
+>>> [least_average(system, source), shown_factor(system, source)]
+[(1, 2), (7, 6)]
+"""
+
+DRAWN = """
+>>> from latewise.systems import System
+>>> from latewise.rules import Rule
+>>> from latewise.mixtures import Mixture
+>>> from latewise.drawn import LiveMixture
+>>> system = System([[0, 1], [2, 0]], {"q": [1, 0], "p": [0, 2]})
+>>> rule = Rule([{"q": (0, 1), "p": (0, 0)}, {"q": (1, 1), "p": (0, 0)}])
+>>> other = Rule([{"q": (1, 0), "p": (0, 0)}])
+>>> live = LiveMixture(system, Mixture([(3, rule), (2, other)]), (9, 5))
+>>> [live.serve("q"), live.serve("p"), live.paid(), live.best(), live.draw(3), live.drawn()]
+[[(0, 1), (1, 1)], [(0, 0), (0, 2)], [1, 3], 1, 1, 1]
+"""
+
 
 class ExamplesTest(unittest.TestCase):
     def run_example(self, text):
@@ -167,6 +209,18 @@ class ExamplesTest(unittest.TestCase):
 
     def test_mixing(self):
         self.run_example(MIXING)
+
+    def test_sources(self):
+        self.run_example(SOURCES)
+
+    def test_averages(self):
+        self.run_example(AVERAGES)
+
+    def test_prices(self):
+        self.run_example(PRICES)
+
+    def test_drawn(self):
+        self.run_example(DRAWN)
 
     def test_readme(self):
         blocks = README.read_text().split("```\n")[1::2]

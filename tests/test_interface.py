@@ -3,7 +3,10 @@
 import inspect
 import unittest
 
-from latewise import compare, factors, games, hindsight, known, live, mixing, mixtures, rules, smallest, systems
+from latewise import (
+    averages, compare, drawn, factors, games, hindsight, known, live, mixing, mixtures, prices, rules, smallest, sources,
+    systems,
+)
 from helpers import TWO_MODES
 
 FUNCTIONS = [
@@ -41,10 +44,31 @@ FUNCTIONS = [
     (mixing, "best_mixture", ["system", "rules"]),
     (mixing, "hard_loops", ["system", "rules"]),
     (mixing, "are_hard", ["system", "rules", "loops", "some_factor"]),
+    (sources, "check_source", ["system", "source"]),
+    (sources, "chance", ["source", "row"]),
+    (sources, "parting_draws", ["first", "second"]),
+    (sources, "reduced_source", ["source"]),
+    (averages, "expected_cost", ["system", "rule", "source", "many"]),
+    (averages, "expected_best", ["system", "source", "many"]),
+    (averages, "rule_average", ["system", "rule", "source"]),
+    (averages, "best_average", ["system", "source"]),
+    (averages, "mixture_average", ["system", "mixture", "source"]),
+    (averages, "rule_table", ["system", "rule", "source"]),
+    (averages, "best_table", ["system", "source"]),
+    (averages, "is_rule_table", ["system", "rule", "source", "table"]),
+    (averages, "is_best_table", ["system", "source", "table"]),
+    (prices, "least_average", ["system", "source"]),
+    (prices, "prices_with_orders", ["system", "source"]),
+    (prices, "are_prices", ["system", "source", "fraction", "some_prices"]),
+    (prices, "keep_prices", ["system", "source", "fraction", "some_prices", "orders"]),
+    (prices, "shown_factor", ["system", "source"]),
     (systems, "System", ["switches", "kinds"]),
     (rules, "Rule", ["states"]),
     (live, "Live", ["system", "rule", "some_factor"]),
     (mixtures, "Mixture", ["parts"]),
+    (sources, "Source", ["states"]),
+    (drawn, "LiveMixture", ["system", "mixture", "some_factor"]),
+    (drawn, "LiveSource", ["system", "source", "rule"]),
 ]
 METHODS = [
     (systems.System, "switch", ["self", "first", "second"]),
@@ -60,6 +84,13 @@ METHODS = [
     (live.Live, "change_system", ["self", "system"]),
     (live.Live, "back", ["self", "number"]),
     (mixtures.Mixture, "parts", ["self"]),
+    (sources.Source, "states", ["self"]),
+    *[(drawn.LiveMixture, name, ["self"]) for name in ("paid", "best", "debts", "left", "allowance", "drawn", "mark")],
+    (drawn.LiveMixture, "serve", ["self", "kind"]),
+    (drawn.LiveMixture, "draw", ["self", "number"]),
+    (drawn.LiveMixture, "back", ["self", "number"]),
+    *[(drawn.LiveSource, name, ["self"]) for name in ("table", "position", "paid", "due", "luck")],
+    (drawn.LiveSource, "serve", ["self", "kind"]),
 ]
 
 
