@@ -87,8 +87,10 @@ def parts_in_all(steps):
 
 
 def balance(steps, number, unknown):
-    """For each unknown place how often it counts in the sum of the parts of a place times its number, less each part
-    times the number behind it."""
+    """For each unknown place how often its number is counted in the balance of a place with these steps.
+
+    The balance is the number of the place times all parts, less the number behind each edge times its part.
+    """
     row = [0 for other in unknown]
     columns = {other: at for at, other in enumerate(unknown)}
     row[columns[number]] = parts_in_all(steps)
@@ -99,7 +101,7 @@ def balance(steps, number, unknown):
 
 
 def fractions_solved(edges, unknown, sums):
-    """The fractions of unknown places whose balances, in which all other places count as 0, are these sums."""
+    """The fractions that make the balances of unknown places these sums, if all other places count as 0."""
     tops, scale = with_one_bottom(sums)
     bottom, solutions = solved([balance(edges[number], number, unknown) + [top] for number, top in zip(unknown, tops)])
     return [lowest_terms(solution[0], bottom * scale) for solution in solutions]

@@ -32,11 +32,12 @@ def hard_loops(system, rules):
         if some_factor == (1, 1):
             return None
         hard = counted(burdens, able, weights, some_factor)
-    hard += [
+    # A rule without a factor is never below one if its own loop without growth is counted often enough.
+    more = [
         counted_enough(burden_of(system, graph, loop), at, hard, some_factor)
         for at, loop in enumerate(free) if loop is not None
     ]
-    return [(count, *loop_rows(graph, burden[2])) for count, burden in hard]
+    return [(count, *loop_rows(graph, burden[2])) for count, burden in hard + more]
 
 
 def are_hard(system, rules, loops, some_factor):

@@ -284,6 +284,26 @@ class Tables(unittest.TestCase):
         self.assertIs(is_rule_table(TWO_MODES, PARTED, SOURCE, first), True)
         self.assertNotEqual(first, table)
 
+    def test_rates_that_are_no_averages_of_those_behind(self):
+        # To and fro between two positions the rates may be raised and lowered in turns, and the offsets with them.
+        source = Source([{"q": (1, 1)}, {"p": (1, 0)}])
+        table = {(0, 0, 0): ((1, 2), (0, 1)), (1, 1, 0): ((1, 2), (-1, 2))}
+        self.assertIs(is_rule_table(TWO_MODES, RULE, source, table), True)
+        self.assertIs(is_rule_table(TWO_MODES, RULE, source, {(0, 0, 0): ((1, 1), (0, 1)), (1, 1, 0): ((0, 1), (0, 1))}), False)
+        steps = best_positions_by_hand(TWO_MODES, source)
+        table = best_table(TWO_MODES, source)
+        for by in (Fraction(1, 3), Fraction(-2)):
+            moved = {}
+            for place, (rate, offset) in table.items():
+                # The beginning comes but once, and then two positions take turns.
+                signs = {1: 1, 0: -1}[place[0]] if place != (0, start_of(TWO_MODES)) else 0
+                moved[place] = told(Fraction(*rate) + signs * by), offset
+            second = [place for place in table if place[0] == 0 and place != (0, start_of(TWO_MODES))]
+            for place in second:
+                moved[place] = moved[place][0], told(Fraction(*moved[place][1]) + by)
+            self.assertFalse(is_table_by_hand(steps, moved))
+            self.assertIs(is_best_table(TWO_MODES, source, moved), False)
+
     def cases(self):
         """Pairs of a judging function and a right table."""
         return [

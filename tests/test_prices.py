@@ -118,6 +118,7 @@ class LeastAverages(unittest.TestCase):
         """That the kinds of values are right, and the keys just those."""
         pairs = pairs_by_hand(system, source)
         self.assertEqual([type(some_prices), type(orders)], [dict, dict])
+        self.assertEqual(len({id(order) for order in orders.values()}), len(orders))
         self.assertEqual([set(some_prices), set(orders)], [set(pairs)] * 2)
         for price in some_prices.values():
             self.assertEqual(price, told(Fraction(*price)))
