@@ -95,22 +95,6 @@ def is_least_of_all_ways(steps, first, least):
     return None if less is None else not less
 
 
-def spots_from_by_hand(system, rule, first, most=2000):
-    """A dict from the spots of a rule that can be reached from one of them to lists of (kind, spot, cost, growth)."""
-    states = rule.states()
-
-    def steps(spot):
-        state, mode, owed = spot
-        found = []
-        for kind in system.kinds():
-            chosen, following = states[state][kind]
-            grown, behind = growth_by_hand(system, owed, kind)
-            found.append((kind, (following, chosen, behind), cost_of_step(system, mode, kind, chosen), grown))
-        return found
-
-    return spread(first, steps, most)
-
-
 def joint_by_hand(system, rules, most=2000):
     """A dict from the joint spots of rules to lists of (kind, joint spot behind, costs, growth)."""
     tables = [rule.states() for rule in rules]

@@ -1,8 +1,7 @@
 """A live machine as point 17 tells it, reckoned anew from all that was done."""
 
 from latewise.errors import OtherModes, TooDear, TooManyStates, Unfit, UnknownKind, UnknownMark
-from joint_reckoning import spots_from_by_hand
-from reckoning import able_modes, cost_of_step, dearest_from_all, growth_by_hand, start_of
+from reckoning import able_modes, cost_of_step, dearest_from_all, growth_by_hand, spots_by_hand, start_of
 
 
 def fit_by_hand(system, rule):
@@ -15,7 +14,7 @@ def fit_by_hand(system, rule):
 
 def left_by_hand(system, rule, some_factor, spot):
     """What is left at a spot."""
-    steps = spots_from_by_hand(system, rule, spot, 1000)
+    steps = spots_by_hand(system, rule, 1000, spot)
     if steps is None:
         raise TooManyStates()
     top, bottom = some_factor

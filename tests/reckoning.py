@@ -88,8 +88,9 @@ def spread(first, steps, most=2000):
     return found
 
 
-def spots_by_hand(system, rule, most=2000):
-    """A dict from the spots of a rule to lists of (kind, spot behind, cost, growth)."""
+def spots_by_hand(system, rule, most=2000, first=None):
+    """A dict from the spots of a rule, from the beginning or another first one on, to lists of (kind, spot behind, cost,
+    growth)."""
     states = rule.states()
 
     def steps(spot):
@@ -101,7 +102,7 @@ def spots_by_hand(system, rule, most=2000):
             told.append((kind, (following, chosen, owed), cost_of_step(system, mode, kind, chosen), grown))
         return told
 
-    return spread((0, 0, start_of(system)), steps, most)
+    return spread(first or (0, 0, start_of(system)), steps, most)
 
 
 def positions_by_hand(system, most=2000):

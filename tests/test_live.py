@@ -5,7 +5,7 @@ import unittest
 from random import Random
 
 from helpers import FOUR_MODES, IDLE_MODE, ONE_MODE, TWO_MODES, long_row, odd_values, wrong_factors
-from joint_reckoning import outcome, spots_from_by_hand
+from joint_reckoning import outcome
 from latewise.errors import BadFactor, OtherModes, TooDear, TooManyStates, Unfit, UnknownKind, UnknownMark, WiseError
 from latewise.factors import excess, factor
 from latewise.hindsight import best, debts
@@ -13,7 +13,9 @@ from latewise.live import Live
 from latewise.rules import Rule, cost, modes_of
 from latewise.systems import System
 from plain_live import PlainLive
-from reckoning import NAMES, cost_of_step, drawn_pairs, drawn_rule, drawn_system, growth_by_hand, start_of
+from reckoning import (
+    NAMES, cost_of_step, drawn_pairs, drawn_rule, drawn_system, growth_by_hand, spots_by_hand, start_of,
+)
 
 RULE = Rule([{"q": (0, 1), "p": (0, 0)}, {"q": (1, 1), "p": (0, 0)}])
 OTHER = Rule([{"q": (1, 0), "p": (0, 0)}])
@@ -84,7 +86,7 @@ class BesideAPlainOne(unittest.TestCase):
             plain = outcome(lambda: PlainLive(wide, rules[0], some_factor))
             if isinstance(made, list):
                 self.assertEqual(made, plain)
-            elif len(spots_from_by_hand(wide, rules[0], (0, 0, start_of(wide)))) <= 60:
+            elif len(spots_by_hand(wide, rules[0])) <= 60:
                 return made, plain, systems, rules
 
     def call(self, draw, plain, systems, rules):
@@ -313,7 +315,7 @@ class Errors(unittest.TestCase):
             (THOUSAND, THOUSAND_RULE, (0, 0, debts(THOUSAND, ["c", "c"])), 1002),
             (ONE_MORE, ONE_MORE_RULE, (0, 0, debts(ONE_MORE, ["a"])), 1000),
         ):
-            self.assertEqual(len(spots_from_by_hand(system, rule, spot)), many)
+            self.assertEqual(len(spots_by_hand(system, rule, 2000, spot)), many)
         begun = time.monotonic()
         live = Live(THOUSAND, THOUSAND_RULE, (8, 1))
         live.change_rule(ALONE)
